@@ -1,0 +1,1 @@
+"""A taximeter and a rank: see taxirank.meter."""
