@@ -89,13 +89,15 @@ def drive_way(hire, s, m):
     return True
 
 
-# False as in drive_way. There's no way's end here: s and m tell the speed alone.
-def drive_till_drop(hire, s, m):
-    fallen = len(hire.falls)
+# Till so many drops more have fallen; None: it goes in too many stretches. There's no way's end here: s and m tell the
+# speed alone. The hire stays as it was.
+def seconds_till_drop(hire, count, s, m):
+    driven = copied(hire)
+    wanted = len(hire.falls) + count
     stretches = 0
-    while len(hire.falls) == fallen:
+    while len(driven.falls) < wanted:
         if stretches == MOST_STRETCHES:
-            return False
-        go_stretch(hire, s, m, next_change(hire))
+            return None
+        go_stretch(driven, s, m, next_change(driven))
         stretches += 1
-    return True
+    return minus(driven.gone, hire.gone)

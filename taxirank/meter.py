@@ -1,20 +1,25 @@
-"""The meter: answers the calls of one line, each by its number."""
+"""The meter and the rank: answers the calls of one line, each by its number."""
 
-from taxirank.fraction import minus
-from taxirank.hire import Hire, copied, drive_till_drop, drive_way, fare_with_extras, tariff_place
+from taxirank.fraction import lowest, times
+from taxirank.hire import Hire, copied, drive_way, fare_with_extras, seconds_till_drop, tariff_place
+from taxirank.rank import MOST_CAB, Rank, bring_back, is_known, take_first
 from taxirank.reading import read_calls
 from taxirank.tariff import DAY, are_tariffs
 
 FINE = 0
 WRONG = -1
 HAS_BEGUN = -4
+IS_THERE = -4
+NOT_THERE = -4
 TOO_LONG = -5
 NO_HIRE = -6
+NOBODY = -6
 NO_TARIFFS = -9
 
 MOST_SECONDS = 20000
 MOST_METRES = 100000
 MOST_EXTRA = 9999
+MOST_REACH = 200
 
 
 class UnknownCall(ValueError):
@@ -25,6 +30,7 @@ class Meter:
     def __init__(self):
         self.tariffs = []
         self.hire = None
+        self.rank = Rank()
 
 
 def answer_begin(meter, tariffs):
@@ -32,6 +38,7 @@ def answer_begin(meter, tariffs):
         return [WRONG]
     meter.tariffs = tariffs
     meter.hire = None
+    meter.rank = Rank()
     return [0]
 
 
@@ -97,10 +104,10 @@ def answer_next(meter, s, m):
     refusal = way_refusal(meter, s, m)
     if refusal != FINE:
         return [refusal]
-    driven = copied(meter.hire)
-    if not drive_till_drop(driven, s, m):
+    seconds = seconds_till_drop(meter.hire, 1, s, m)
+    if seconds is None:
         return [TOO_LONG]
-    return list(minus(driven.gone, meter.hire.gone))
+    return list(seconds)
 
 
 def answer_would(meter, s, m):
@@ -109,6 +116,60 @@ def answer_would(meter, s, m):
     # Drive puts a copy in the hire's place, so the one from before is as it was.
     meter.hire = before
     return told[:1]
+
+
+def answer_pay(meter):
+    hire = meter.hire
+    if hire is None:
+        return [NO_HIRE]
+    meter.hire = None
+    return [fare_with_extras(hire), hire.gone[0], hire.gone[1]]
+
+
+def answer_reach(meter, n, s, m):
+    refusal = way_refusal(meter, s, m)
+    if refusal != FINE:
+        return [refusal]
+    if n > MOST_REACH:
+        return [WRONG]
+    seconds = seconds_till_drop(meter.hire, n + 1, s, m)
+    if seconds is None:
+        return [TOO_LONG]
+    return list(times(seconds, lowest(m, s)))
+
+
+def answer_join(rank, cab):
+    if cab > MOST_CAB:
+        return [WRONG]
+    if is_known(rank, cab):
+        return [IS_THERE]
+    rank.waiting.append(cab)
+    return [len(rank.waiting)]
+
+
+def answer_take(rank, now):
+    if len(rank.waiting) == 0:
+        return [NOBODY]
+    return [take_first(rank, now)]
+
+
+def answer_back(rank, cab, now, fare):
+    if cab not in rank.away:
+        return [NOT_THERE]
+    if now < rank.away[cab]:
+        return [WRONG]
+    return [bring_back(rank, cab, now, fare)]
+
+
+def answer_leave(rank, cab):
+    if cab not in rank.waiting:
+        return [NOT_THERE]
+    rank.waiting.remove(cab)
+    return [len(rank.waiting)]
+
+
+def answer_rank(rank):
+    return [len(rank.waiting)] + rank.waiting + [len(rank.away)] + list(rank.away)
 
 
 def answer_call(meter, call):
@@ -130,6 +191,24 @@ def answer_call(meter, call):
         return answer_next(meter, numbers[0], numbers[1])
     if number == 7:
         return answer_would(meter, numbers[0], numbers[1])
+    if number == 8:
+        return answer_pay(meter)
+    if number == 9:
+        return answer_reach(meter, numbers[0], numbers[1], numbers[2])
+    return answer_rank_call(meter.rank, number, numbers)
+
+
+def answer_rank_call(rank, number, numbers):
+    if number == 10:
+        return answer_join(rank, numbers[0])
+    if number == 11:
+        return answer_take(rank, numbers[0])
+    if number == 12:
+        return answer_back(rank, numbers[0], numbers[1], numbers[2])
+    if number == 13:
+        return answer_leave(rank, numbers[0])
+    if number == 14:
+        return answer_rank(rank)
     raise UnknownCall(f"no call has the number {number}")
 
 

@@ -53,6 +53,34 @@ def would(s, m):
     return call(7, s, m)
 
 
+def pay():
+    return call(8)
+
+
+def reach(n, s, m):
+    return call(9, n, s, m)
+
+
+def join(cab):
+    return call(10, cab)
+
+
+def take(now):
+    return call(11, now)
+
+
+def back(cab, now, price):
+    return call(12, cab, now, price)
+
+
+def leave(cab):
+    return call(13, cab)
+
+
+def rank():
+    return call(14)
+
+
 def line_of(*calls):
     return [number for one in calls for number in one]
 

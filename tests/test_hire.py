@@ -1,6 +1,7 @@
 import unittest
 
-from tests.lines import (DAYTIME, NIGHT, PLAIN, ask, begin, drive, drops, extra, fare, hire, last, next_drop, would)
+from tests.lines import (DAYTIME, NIGHT, PLAIN, ask, begin, drive, drops, extra, fare, hire, last, next_drop, pay,
+                         reach, would)
 
 
 class Hire(unittest.TestCase):
@@ -44,7 +45,8 @@ class Hire(unittest.TestCase):
     def test_all_others_are_refused_without_a_hire(self):
         # Wrong numbers too: that there's no hire is asked first.
         others = (drive(1, 1), drive(0, 0), drive(20001, 100001), extra(1), extra(10000), fare(), drops(),
-                  next_drop(1, 1), next_drop(0, 0), would(1, 1), would(1, 100001))
+                  next_drop(1, 1), next_drop(0, 0), would(1, 1), would(1, 100001), pay(), reach(0, 1, 1),
+                  reach(201, 1, 1), reach(0, 0, 0))
         for other in others:
             self.assertEqual(ask(other), [[-6]])
             self.assertEqual(ask(begin(PLAIN), other), [[0], [-6]])
